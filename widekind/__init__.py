@@ -1,0 +1,1 @@
+"""Widekind: pieces with functions and lets, and the widest kind of each."""
