@@ -1,4 +1,4 @@
-"""Whether the package keeps to the part of Python that it is to be written in, as far as a walk of its code can tell."""
+"""Whether the package keeps to the part of Python that it is to be written in, as far as a walk of it can tell."""
 
 import ast
 import builtins
@@ -141,6 +141,58 @@ class Language(unittest.TestCase):
         called = {id(node.func) for _, node in self.each(ast.Call)}
         for place, node in self.each(ast.Attribute):
             self.assertIn(node.attr, (own | METHODS) if id(node) in called else stored, place)
+
+    def test_what_is_walked_once(self):
+        once = {"zip", "enumerate", "reversed", "range"}
+        takers = {"list", "tuple", "dict", "sorted", "sum", "any", "all", "enumerate", "zip", "min", "max"}
+        walked = set()
+        for _, node in self.each(ast.For, ast.comprehension):
+            walked.add(id(node.iter))
+        for _, node in self.each(ast.Call):
+            if isinstance(node.func, ast.Name) and node.func.id in takers:
+                walked.update(id(given) for given in node.args)
+        for place, node in self.each(ast.Call):
+            called = node.func
+            if isinstance(called, ast.Name) and called.id in once:
+                self.assertIn(id(node), walked, place)
+            if isinstance(called, ast.Attribute) and called.attr in ("items", "keys", "values"):
+                self.assertIn(id(node), walked, place)
+            self.assertFalse(isinstance(called, ast.Name) and called.id in ("set", "frozenset", "chr"), place)
+            if isinstance(called, ast.Name) and called.id in BUILT_IN or isinstance(called, ast.Attribute):
+                self.assertFalse(node.keywords, place)
+
+    def test_what_stands_at_the_top_is_only_read(self):
+        for name, tree in self.trees.items():
+            tops = {part.targets[0].id for part in tree.body if isinstance(part, ast.Assign)}
+            read = set()
+            for node in ast.walk(tree):
+                if isinstance(node, ast.Subscript) and isinstance(node.ctx, ast.Load):
+                    read.add(id(node.value))
+                elif isinstance(node, ast.Compare):
+                    read.update(id(right) for right in node.comparators)
+            for node in ast.walk(tree):
+                if isinstance(node, ast.Name) and node.id in tops and isinstance(node.ctx, ast.Load):
+                    self.assertIn(id(node), read, f"{name}:{node.lineno}")
+
+    def test_locals_are_called_like_no_import_and_no_class(self):
+        for name, tree in self.trees.items():
+            taken = {part.name for part in tree.body if isinstance(part, (ast.ClassDef, ast.FunctionDef))}
+            for node in ast.walk(tree):
+                if isinstance(node, ast.ImportFrom):
+                    taken.update(alias.name for alias in node.names)
+            for node in ast.walk(tree):
+                if isinstance(node, ast.arg):
+                    self.assertNotIn(node.arg, taken, f"{name}:{node.lineno}")
+                elif isinstance(node, ast.Name) and isinstance(node.ctx, ast.Store):
+                    self.assertNotIn(node.id, taken, f"{name}:{node.lineno}")
+
+    def test_no_def_calls_itself(self):
+        # Pieces and kinds may lie thousands deep in one another.
+        for place, node in self.each(ast.FunctionDef):
+            for each in ast.walk(node):
+                if isinstance(each, ast.Call):
+                    called = each.func.attr if isinstance(each.func, ast.Attribute) else each.func.id
+                    self.assertNotEqual(called, node.name, place)
 
     def test_imports(self):
         drawn = {}

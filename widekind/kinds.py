@@ -39,20 +39,3 @@ def numbered(kind):
         if part[0] == "blank":
             counts.setdefault(part[1], len(counts))
     return built(kind, lambda part: ("blank", counts[part[1]]) if part[0] == "blank" else part)
-
-
-# Whether two kinds are one and the same, down to the numbers of their blanks.
-def same(one, other):
-    waiting = [(one, other)]
-    while waiting:
-        both = waiting.pop()
-        left = both[0]
-        right = both[1]
-        if left[0] != right[0]:
-            return False
-        if left[0] == "blank" and left[1] != right[1]:
-            return False
-        if len(left) == 3:
-            waiting.append((left[1], right[1]))
-            waiting.append((left[2], right[2]))
-    return True
