@@ -119,6 +119,6 @@ class Finder:
 
     def outside_wide(self, word):
         if word not in self.wide:
-            node = self.table.laid(self.outside[word], {}, 1)
-            self.wide[word] = (node, self.table.freed(node, 0))
+            node = self.table.laid(self.outside[word], {}, 2)
+            self.wide[word] = (node, self.table.freed(node, 1))
         return self.wide[word]

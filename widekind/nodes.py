@@ -11,7 +11,8 @@ from widekind.kinds import built
 # Nodes are whole numbers. The form of a node is like a kind, but with nodes as its parts;
 # that of a blank may lack its number, for the node alone says which blank it is.
 # The parts of a form were added ahead of it, so that what isn't linked can't lie in itself.
-# Levels are for lets: what lies in a kind is to have no higher level than the kind has; until `settle`, it may have.
+# Levels, of 1 or more, are for lets: what lies in a kind is to have no higher level than the kind has, though it may
+# have until `settle`.
 class Nodes:
 
     def __init__(self):
@@ -20,7 +21,7 @@ class Nodes:
         self.levels = []
         self.lowered = []
 
-    def added(self, form, level=0):
+    def added(self, form, level=1):
         node = len(self.forms)
         self.forms.append(form)
         self.links.append(node)
@@ -29,7 +30,7 @@ class Nodes:
 
     # The node of a kind; `known` has nodes by their forms, and gets those that are new.
     # So kinds that are laid with one `known` have one node if they are the same.
-    def laid(self, kind, known, level=0):
+    def laid(self, kind, known, level=1):
         return built(kind, lambda part: self.laid_part(part, known, level))
 
     def laid_part(self, part, known, level):
@@ -96,7 +97,7 @@ class Nodes:
 
     # The roots in these nodes, each once and behind those in it; None where one would lie in itself.
     # What has no higher level than `bound` is passed by.
-    def parts_first(self, nodes, bound=-1):
+    def parts_first(self, nodes, bound=0):
         order = []
         done = {}
         waiting = [self.root(node) for node in reversed(nodes)]

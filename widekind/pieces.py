@@ -26,7 +26,7 @@ def inner(piece):
 
 
 # By places: the pieces; the place of the piece around each, and the step that leads from there to it;
-# the places of those straight within each; and in how many lets it lies to the side of their `one`.
+# the places of those straight within each; and its level, 1 and one more for each let in whose `one` it lies.
 # The turns tell in order when a piece is done with, and when the name of a form or let begins to be usable and ends.
 # `owners` has, for each name, the place of the form or let to which it belongs, or None;
 # `hidden` has, for each form and let, that to which its word belongs just outside, or None.
@@ -46,7 +46,7 @@ class Layout:
         self.lay_names()
 
     def lay_pieces(self, piece):
-        waiting = [(piece, None, 0, 0)]
+        waiting = [(piece, None, 0, 1)]
         while waiting:
             each = waiting.pop()
             place = len(self.pieces)
